@@ -1,5 +1,7 @@
 """What a machine says to another: 40 bytes, with their check."""
 
+MOST_MACHINES = 16
+
 ALL_ONES = 0xFFFFFFFF
 POLYNOMIAL = 0x82F63B78
 
@@ -11,6 +13,11 @@ NO_REPORT = (0, 0, 0)
 
 def low_byte_first(number, size):
     return [(number >> (8 * place)) & 255 for place in range(size)]
+
+
+def number_of(numbers):
+    """The number whose bytes these are, the low byte first."""
+    return sum([number << (8 * place) for place, number in enumerate(numbers)])
 
 
 def check_step(check):
@@ -40,3 +47,25 @@ def message_of(me, to, taken, errand, wave, report):
     message.extend(low_byte_first(report[2], 8))
     message.extend(low_byte_first(check_of(message), 4))
     return message
+
+
+def is_right(message):
+    if check_of(message[:36]) != number_of(message[36:]):
+        return False
+    if message[0] >= MOST_MACHINES or message[1] >= MOST_MACHINES:
+        return False
+    if message[2] > 1 or message[3] > 1:
+        return False
+    return message[2] == 1 or not any(message[8:16])
+
+
+class Message:
+    """What the 40 bytes say; errand and report are formed like NO_ERRAND and NO_REPORT."""
+
+    def __init__(self, numbers):
+        self.sender = numbers[0]
+        self.to = numbers[1]
+        self.taken = number_of(numbers[4:8])
+        self.errand = (numbers[2], number_of(numbers[8:12]), number_of(numbers[12:16]))
+        self.wave = number_of(numbers[16:20])
+        self.report = (numbers[3], number_of(numbers[20:28]), number_of(numbers[28:36]))

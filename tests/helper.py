@@ -25,6 +25,27 @@ def say(thing, to):
     return [4, thing, to]
 
 
+def heard(thing, said):
+    return [5, thing, len(said)] + list(said)
+
+
+def wave(thing):
+    return [6, thing]
+
+
+def done(thing):
+    return [7, thing]
+
+
+def state(thing):
+    return [8, thing]
+
+
+def view(thing, me, machines):
+    """Calls that change nothing and show all that a machine shows."""
+    return [state(thing), done(thing)] + [say(thing, to) for to in range(machines) if to != me]
+
+
 def split(answered):
     """The list that is given back, as one list for each call."""
     parts = []
@@ -58,11 +79,19 @@ def crc32c(numbers):
     return int(format(check ^ 0xFFFFFFFF, "032b")[::-1], 2)
 
 
+def sealed(numbers):
+    """These 36 bytes with their check behind them."""
+    return list(numbers) + list(crc32c(numbers).to_bytes(4, "little"))
+
+
 def message(me, to, errand=None, rests=0, taken=0, wave=0, sent=0, all_taken=0):
     """The 40 bytes as the document tells them; errand is (number, task)."""
     number, task = errand or (0, 0)
     head = bytes([me, to, 0 if errand is None else 1, rests])
     body = b"".join(part.to_bytes(4, "little") for part in (taken, number, task, wave))
-    tail = sent.to_bytes(8, "little") + all_taken.to_bytes(8, "little")
-    whole = head + body + tail
-    return list(whole + crc32c(whole).to_bytes(4, "little"))
+    return sealed(head + body + sent.to_bytes(8, "little") + all_taken.to_bytes(8, "little"))
+
+
+def changed(said, place, number):
+    """The message with another byte at this place, and a check that is right again."""
+    return sealed(said[:place] + [number] + said[place + 1:36])

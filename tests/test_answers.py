@@ -1,11 +1,14 @@
 import unittest
 
 from alldone.machines import answers
-from helper import ask, finish, give, message, say, split, start, take
+from helper import ask, done, finish, give, heard, message, say, split, start, state, take, wave
 
 LINE = (
     start(0, 0, 2, [1, 2]) + take(0) + give(0, 1, 3) + give(0, 0, 4) + say(0, 1) + say(0, 0)
     + start(3, 1, 2, []) + take(3) + say(3, 0) + start(3, 2, 2, [9]) + finish(0) + take(0)
+    + wave(0) + wave(0) + heard(3, message(0, 1, errand=(0, 3), wave=1)) + state(3) + done(3) + wave(3)
+    + heard(0, message(1, 0, rests=1, taken=1, wave=1)) + heard(0, message(1, 0, rests=1, taken=1)[::-1])
+    + wave(0) + heard(0, message(1, 0, rests=1, taken=1, wave=2, all_taken=1)) + done(0) + wave(0) + state(0)
 )
 
 
@@ -16,6 +19,16 @@ class Answers(unittest.TestCase):
             answers(line), [1, 0, 1, -11, 2, 0, 7, 1, -16, 41, 0] + message(0, 1) + [1, -22, 1, 0],
         )
 
+    def test_how_the_answers_of_the_later_calls_stand_there(self):
+        hears = heard(1, message(0, 1, errand=(0, 3), wave=1))
+        line = start(1, 1, 2) + hears + hears + heard(1, [0] * 40) + state(1) + wave(1) + done(1)
+        self.assertEqual(answers(line), [1, 0, 1, 1, 1, 0, 1, -71, 5, 0, 1, 0, 0, 1, 1, -22, 1, -22])
+        self.assertEqual(answers(start(2, 0, 2) + wave(2) + done(2) + state(2)), [1, 0, 1, 0, 1, 0, 5, 0, 0, 0, 0, 1])
+
+    def test_a_message_like_calls_is_not_taken_for_calls(self):
+        answered = ask(start(0, 1, 2), heard(0, [1, 0, 7, 0] * 10), state(0), heard(0, message(0, 1)), take(0))
+        self.assertEqual(answered[1:], [[-71], [0, 0, 0, 0, 0], [0], [-11]])
+
     def test_tasks_like_calls_are_not_taken_for_calls(self):
         answered = ask(start(0, 0, 2, [0, 1, 2, 3, 4]), start(1, 1, 2, []), take(1), take(0))
         self.assertEqual(answered, [[0], [0], [-11], [0, 0]])
@@ -25,9 +38,14 @@ class Answers(unittest.TestCase):
         self.assertEqual(answered, [[0], [-22], [0, 8]])
 
     def test_all_are_whole_numbers(self):
-        answered = answers(LINE)
-        self.assertIs(type(answered), list)
-        self.assertEqual({type(number) for number in answered}, {int})
+        quiet = start(0, 0, 2) + wave(0)
+        for number in (1, 2):
+            quiet += heard(0, message(1, 0, rests=1, wave=number)) + wave(0) + done(0)
+        self.assertEqual(answers(quiet)[-2:], [1, 1])
+        for line in (LINE, quiet):
+            answered = answers(line)
+            self.assertIs(type(answered), list)
+            self.assertEqual({type(number) for number in answered}, {int})
 
     def test_what_is_handed_in_is_as_it_was(self):
         line = list(LINE)

@@ -122,6 +122,13 @@ class Language(unittest.TestCase):
             if isinstance(node, ast.Call) and isinstance(node.func, ast.Attribute):
                 self.assertIn(node.func.attr, METHODS + own, name)
 
+    def test_no_name_is_a_method_and_a_value(self):
+        classes = [node for name, node in self.nodes if isinstance(node, ast.ClassDef)]
+        methods = {part.name for node in classes for part in node.body if isinstance(part, ast.FunctionDef)}
+        attributes = [node for name, node in self.nodes if isinstance(node, ast.Attribute)]
+        values = {node.attr for node in attributes if isinstance(node.ctx, ast.Store)}
+        self.assertEqual(methods & values, set())
+
 
 if __name__ == "__main__":
     unittest.main()

@@ -1,6 +1,6 @@
 import unittest
 
-from helper import TOP, ask, finish, give, message, say, start, take
+from helper import TOP, ask, done, finish, give, heard, message, say, start, take, view, wave
 
 
 class Start(unittest.TestCase):
@@ -69,6 +69,53 @@ class StartAgain(unittest.TestCase):
         self.assertEqual(plain[4:], [
             [-16], [0] + message(1, 2, errand=(0, 9)), [0] + message(1, 0), [-22], [0], [0, 8], [0], [0, 10],
         ])
+
+    def test_errands_waves_and_reports_of_machine_0_are_gone(self):
+        told = []
+        for number in (1, 2):
+            told += [wave(0), heard(0, message(1, 0, errand=(number - 1, 9), rests=1, taken=1, wave=number))]
+            told += [take(0), finish(0)]
+        before = (start(0, 0, 2, [7]), take(0), give(0, 1, 8), give(0, 1, 8), finish(0), *told, wave(0))
+        new = (start(0, 0, 2, [7]), *view(0, 0, 2), wave(0), *view(0, 0, 2), wave(0), take(0), give(0, 1, 8), say(0, 1))
+        answered = ask(*before, *new)[len(before):]
+        self.assertEqual(answered, ask(*new))
+        self.assertEqual(answered, [
+            [0], [0, 1, 0, 0, 0], [0], [0] + message(0, 1),
+            [0], [0, 1, 0, 0, 1], [0], [0] + message(0, 1, wave=1),
+            [-16], [0, 7], [0], [0] + message(0, 1, errand=(0, 8), wave=1),
+        ])
+
+    def test_that_all_is_done_is_gone(self):
+        reports = [heard(0, message(1, 0, rests=1, wave=number)) for number in (1, 2)]
+        line = (start(0, 0, 2), wave(0), reports[0], wave(0), reports[1], wave(0), done(0))
+        again = ask(*line, *line, start(0, 0, 2), done(0), start(0, 1, 2), done(0))
+        self.assertEqual(again[:7], again[7:14])
+        self.assertEqual(again[5:7] + again[14:], [[1], [1], [0], [0], [0], [-22]])
+
+    def test_errands_waves_and_reports_of_another_are_gone(self):
+        hears = heard(0, message(0, 1, errand=(0, 9), taken=1, wave=4))
+        answered = ask(*self.BUSY, hears, *view(0, 1, 3), start(0, 1, 3), *view(0, 1, 3), hears, say(0, 0))
+        self.assertEqual(answered[4:8], [
+            [1], [0, 3, 1, 1, 4], [-22], [0] + message(1, 0, taken=1, wave=4, sent=1, all_taken=1),
+        ])
+        self.assertEqual(answered[9:], [
+            [0], [0, 0, 0, 0, 0], [-22], [0] + message(1, 0), [0] + message(1, 2), [1],
+            [0] + message(1, 0, taken=1, wave=4, all_taken=1),
+        ])
+
+    def test_a_refused_one_leaves_waves_and_reports(self):
+        wrong = start(0, 2, 2, [4])
+        for line in (
+            (start(0, 0, 2), wave(0), heard(0, message(1, 0, rests=1, wave=1)), wave(0),
+             heard(0, message(1, 0, rests=1, wave=2)), wave(0), *view(0, 0, 2), wave(0)),
+            (start(0, 1, 2, [5]), heard(0, message(0, 1, errand=(0, 6), wave=3)), *view(0, 1, 2),
+             heard(0, message(0, 1, errand=(0, 6), wave=3))),
+        ):
+            plain = ask(*line)
+            for place in range(1, len(line) + 1):
+                answered = ask(*line[:place], wrong, *line[place:])
+                self.assertEqual(answered.pop(place), [-22])
+                self.assertEqual(answered, plain)
 
 
 if __name__ == "__main__":

@@ -119,24 +119,6 @@ class GiveAway(unittest.TestCase):
             self.assertEqual(machine.give(to, 10 + to), [0])
         self.assertEqual(machine.errands, [[(0, 10), (1, 10)], [], [(0, 12), (1, 12), (2, 12)], [(0, 13)]])
 
-    def test_numbers_go_on_after_errands_that_are_out_no_more(self):
-        machine = Machine(0, 2, [5])
-        machine.take()
-        machine.give(1, 6)
-        machine.give(1, 7)
-        machine.errands[1] = []
-        machine.give(1, 8)
-        self.assertEqual(machine.say(1), [0] + message(0, 1, errand=(2, 8)))
-
-    def test_one_more_once_an_errand_is_out_no_more(self):
-        machine = Machine(0, 3, [5])
-        machine.take()
-        for task in range(256):
-            machine.give(1, task)
-        self.assertEqual(machine.give(2, 6), [-28])
-        machine.errands[1].pop(0)
-        self.assertEqual([machine.give(2, 6), machine.give(2, 6)], [[0], [-28]])
-
     def test_the_last_number_that_an_errand_may_have(self):
         machine = Machine(0, 3, [5])
         machine.take()
